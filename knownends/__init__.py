@@ -1,0 +1,1 @@
+"""Knownends: what a sketch of a stream tells, exactly."""

@@ -1,0 +1,137 @@
+"""The form of the package's files: the interface as it is listed, and the rules that a look at the code can check."""
+
+import ast
+import builtins
+import pathlib
+import unittest
+
+FOLDER = pathlib.Path(__file__).resolve().parent.parent / "knownends"
+
+# What the interface lists, as far as it is written: each function with its arguments.
+INTERFACE = {
+    "streams": {"is_name": ["thing"], "is_tree": ["thing"], "are_counts": ["thing"], "counts_of": ["tree"]},
+    "texts": {
+        "packed": ["thing"], "sealed": ["thing"], "unpacked": ["text"], "unsealed": ["text"], "check": ["text"],
+    },
+}
+
+LIBRARY = {"heapq", "math", "itertools", "collections"}
+BUILTINS = set(
+    "len range enumerate zip min max sum abs sorted reversed int str bool list tuple dict set isinstance ord repr any "
+    "all divmod pow iter next ValueError KeyError IndexError ZeroDivisionError NotImplemented StopIteration".split()
+)
+METHODS = set(
+    "append clear copy count endswith extend find get index insert isalnum isalpha isdigit islower isspace isupper "
+    "items join keys ljust lower lstrip partition pop remove replace reverse rfind rjust rpartition rsplit rstrip "
+    "setdefault split splitlines startswith strip update upper values zfill bit_length add discard sort".split()
+)
+BARRED = set("register mro elements open input law version_info type typing enum eval exec globals locals vars".split())
+
+
+def trees():
+    """Each file of the package with its syntax tree."""
+    return [(path, ast.parse(path.read_text(encoding="utf-8"))) for path in sorted(FOLDER.glob("**/*.py"))]
+
+
+def bound_names(tree):
+    """Every name that a file gives a meaning: functions, classes, parameters, variables, imports."""
+    for node in ast.walk(tree):
+        if isinstance(node, (ast.FunctionDef, ast.ClassDef)):
+            yield node.name
+        elif isinstance(node, ast.arg):
+            yield node.arg
+        elif isinstance(node, ast.Name) and not isinstance(node.ctx, ast.Load):
+            yield node.id
+        elif isinstance(node, ast.alias):
+            yield node.asname or node.name
+
+
+class TestInterface(unittest.TestCase):
+    def test_each_function_stands_in_its_file_with_its_arguments(self):
+        for module, functions in INTERFACE.items():
+            tree = ast.parse((FOLDER / f"{module}.py").read_text(encoding="utf-8"))
+            defined = {node.name: node.args for node in tree.body if isinstance(node, ast.FunctionDef)}
+            for name, arguments in functions.items():
+                with self.subTest(name):
+                    self.assertEqual([argument.arg for argument in defined[name].args], arguments)
+
+
+class TestForm(unittest.TestCase):
+    def test_files(self):
+        names = [path.name for path in FOLDER.iterdir() if path.name != "__pycache__"]
+        self.assertIn("__init__.py", names)
+        for name in names:
+            self.assertRegex(name, r"^[a-z0-9_]+\.py$")
+
+    def test_sizes_and_signs(self):
+        for path, tree in trees():
+            text = path.read_text(encoding="utf-8")
+            self.assertRegex(text, r"^[\n -~]*\Z", path.name)
+            self.assertLess(len(text.split("\n")), 400, path.name)
+            self.assertLessEqual(max(len(line) for line in text.split("\n")), 120, path.name)
+            for node in ast.walk(tree):
+                if isinstance(node, ast.FunctionDef):
+                    self.assertLessEqual(node.end_lineno - node.lineno + 1, 40, node.name)
+
+    def test_module_level(self):
+        for path, tree in trees():
+            for node in tree.body[1:] if ast.get_docstring(tree) else tree.body:
+                self.assertIsInstance(node, (ast.ImportFrom, ast.FunctionDef, ast.ClassDef, ast.Assign), path.name)
+                if isinstance(node, ast.Assign):
+                    self.assertEqual([type(target) for target in node.targets], [ast.Name], path.name)
+
+    def test_imports_name_the_very_file(self):
+        defined = {}
+        for path, tree in trees():
+            defined["knownends." + path.stem] = {getattr(node, "name", None) for node in tree.body}
+        for path, tree in trees():
+            for node in ast.walk(tree):
+                self.assertNotIsInstance(node, ast.Import, path.name)
+                if isinstance(node, ast.ImportFrom) and node.module not in LIBRARY:
+                    for alias in node.names:
+                        self.assertIn(alias.name, defined[node.module], path.name)
+
+    def test_no_two_files_import_from_each_other(self):
+        ahead = {}
+        for path, tree in trees():
+            imports = [node.module for node in ast.walk(tree) if isinstance(node, ast.ImportFrom)]
+            ahead["knownends." + path.stem] = set(imports)
+        while ahead:
+            free = [name for name in ahead if not ahead[name] & set(ahead)]
+            self.assertTrue(free, sorted(ahead))
+            for name in free:
+                del ahead[name]
+
+    def test_names(self):
+        known = set(dir(builtins))
+        for path, tree in trees():
+            bound = list(bound_names(tree))
+            for name in bound:
+                self.assertNotIn(name, known, path.name)
+                self.assertNotIn(name, BARRED, path.name)
+                self.assertTrue(not name.startswith("__") or name.endswith("__"), path.name)
+            for node in ast.walk(tree):
+                if isinstance(node, ast.Name) and node.id in known and node.id not in bound:
+                    self.assertIn(node.id, BUILTINS, path.name)
+
+    def test_methods(self):
+        own = {name for _, tree in trees() for name in bound_names(tree)}
+        for path, tree in trees():
+            for node in ast.walk(tree):
+                if isinstance(node, ast.Call) and isinstance(node.func, ast.Attribute):
+                    self.assertIn(node.func.attr, METHODS | own, path.name)
+
+    def test_values_and_statements(self):
+        barred = (ast.Div, ast.Global, ast.AsyncFunctionDef, ast.Await, ast.AnnAssign, ast.MatMult)
+        for path, tree in trees():
+            for node in ast.walk(tree):
+                self.assertNotIsInstance(node, barred, path.name)
+                if isinstance(node, ast.Constant):
+                    self.assertNotIsInstance(node.value, (float, complex, bytes), path.name)
+                    self.assertNotIn("%", str(node.value), path.name)
+                if isinstance(node, ast.BinOp) and isinstance(node.op, ast.Pow):
+                    self.assertIsInstance(node.right, ast.Constant, path.name)
+
+
+if __name__ == "__main__":
+    unittest.main()
