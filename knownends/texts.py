@@ -118,8 +118,12 @@ def check(text):
     """The number by which a text is checked: of all its signs, each times its place."""
     if not is_text(text):
         raise NoText()
-    total = 0
-    for place, sign in enumerate(text, start=1):
+    return check_behind(0, 0, text)
+
+
+def check_behind(total, many, text):
+    """The check of a text of so many signs, which has this check itself, and a second text behind it."""
+    for place, sign in enumerate(text, start=many + 1):
         total += place * _number_of(sign)
     return total % CHECKS
 

@@ -1,6 +1,7 @@
 """Values for the tests: whatever point 4 lets a caller pass."""
 
 from knownends import errors
+from knownends.disks import Disk
 
 
 def nested(depth, kind):
@@ -21,5 +22,6 @@ def odd_values():
     values += [{"stream": ()}, {0: "a"}, {("a", 1): 2}, ("a",) * 5000, [None] * 5000, (("pour",),) * 5000]
     for kind in (tuple, list, dict):
         values += [nested(depth, kind) for depth in (2, 29, 30)]
-    values += [errors.NoTree(), errors.BadText(3), errors.TooMany([1]), (errors.BadSheet(None),)]
+    values += [errors.NoTree(), errors.BadText(3), errors.TooMany([1]), (errors.BadSheet(None),), Disk(), (Disk(),)]
+    values += [("count", ["a"]), (1, 0, 0, []), [1, 0, 0, ()], (1, 0, 0, (("a", 0),)), ("unlike", 1), (None,) * 4]
     return values

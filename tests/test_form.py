@@ -13,6 +13,43 @@ INTERFACE = {
     "texts": {
         "packed": ["thing"], "sealed": ["thing"], "unpacked": ["text"], "unsealed": ["text"], "check": ["text"],
     },
+    "disks": {
+        "lines": ["text"], "rest": ["text"], "standing": ["disk"], "opened": ["disk"],
+        "noted": ["disk", "item", "most"], "kept": ["disk", "items", "most"],
+    },
+    "sketches": {
+        "is_sketch": ["thing"], "bare": ["room"], "fed": ["sketch", "name"], "fed_many": ["sketch", "name", "times"],
+        "poured": ["one", "other"], "sketch_of": ["room", "tree"],
+    },
+    "truths": {
+        "is_truth": ["sketch", "thing"], "paper": ["sketch", "truth"], "is_paper": ["sketch", "truth", "thing"],
+    },
+    "questions": {
+        "is_question": ["thing"], "value": ["counts", "question"], "ends": ["sketch", "question"],
+        "end_truths": ["sketch", "question"], "is_end_truths": ["sketch", "question", "thing"],
+        "surely_above": ["sketch", "most"], "perhaps_above": ["sketch", "most"], "surely_first": ["sketch"],
+        "perhaps_first": ["sketch"],
+    },
+    "joins": {
+        "joined": ["counts", "others"], "join": ["one", "other"], "join_truths": ["one", "other"],
+        "is_join_truths": ["one", "other", "thing"], "same": ["one", "other"],
+    },
+    "rooms": {
+        # The document calls the second argument of room_for open, a name that the rules bar.
+        "most_off": ["room", "many"], "room_for": ["many", "most"], "worst": ["room", "many"],
+        "widest": ["room", "many", "question"],
+    },
+    "foes": {"play": ["maker", "room", "many"], "is_verdict": ["maker", "room", "many", "thing"]},
+}
+
+# The classes of the interface: each method that is listed, with its arguments behind self.
+CLASSES = {
+    "disks": {
+        "Disk": {
+            "__init__": [], "area": ["k"], "append": ["k", "text", "most"], "clear": ["k"], "shorten": ["k", "many"],
+            "copy": [], "__eq__": ["other"],
+        },
+    },
 }
 
 LIBRARY = {"heapq", "math", "itertools", "collections"}
@@ -56,6 +93,17 @@ class TestInterface(unittest.TestCase):
                     self.assertEqual([argument.arg for argument in defined[name].args], arguments)
 
 
+    def test_each_method_stands_in_its_class_with_its_arguments(self):
+        for module, classes in CLASSES.items():
+            tree = ast.parse((FOLDER / f"{module}.py").read_text(encoding="utf-8"))
+            found = {node.name: node.body for node in tree.body if isinstance(node, ast.ClassDef)}
+            for word, methods in classes.items():
+                defined = {node.name: node.args for node in found[word] if isinstance(node, ast.FunctionDef)}
+                for name, arguments in methods.items():
+                    with self.subTest(name):
+                        self.assertEqual([argument.arg for argument in defined[name].args], ["self", *arguments])
+
+
 class TestForm(unittest.TestCase):
     def test_files(self):
         names = [path.name for path in FOLDER.iterdir() if path.name != "__pycache__"]
@@ -83,7 +131,9 @@ class TestForm(unittest.TestCase):
     def test_imports_name_the_very_file(self):
         defined = {}
         for path, tree in trees():
-            defined["knownends." + path.stem] = {getattr(node, "name", None) for node in tree.body}
+            words = {getattr(node, "name", None) for node in tree.body}
+            words |= {node.targets[0].id for node in tree.body if isinstance(node, ast.Assign)}
+            defined["knownends." + path.stem] = words
         for path, tree in trees():
             for node in ast.walk(tree):
                 self.assertNotIsInstance(node, ast.Import, path.name)
@@ -121,8 +171,54 @@ class TestForm(unittest.TestCase):
                 if isinstance(node, ast.Call) and isinstance(node.func, ast.Attribute):
                     self.assertIn(node.func.attr, METHODS | own, path.name)
 
+    def test_no_name_hides_an_import_or_a_class(self):
+        for path, tree in trees():
+            taken = {alias.name for node in tree.body if isinstance(node, ast.ImportFrom) for alias in node.names}
+            taken |= {node.name for node in tree.body if isinstance(node, ast.ClassDef)}
+            for node in ast.walk(tree):
+                if isinstance(node, ast.arg):
+                    self.assertNotIn(node.arg, taken, path.name)
+                if isinstance(node, ast.Name) and not isinstance(node.ctx, ast.Load):
+                    self.assertNotIn(node.id, taken, path.name)
+
+    def test_each_import_is_used(self):
+        for path, tree in trees():
+            used = {node.id for node in ast.walk(tree) if isinstance(node, ast.Name)}
+            for node in tree.body:
+                if isinstance(node, ast.ImportFrom):
+                    for alias in node.names:
+                        self.assertIn(alias.name, used, path.name)
+
+    def test_what_is_compared_by_is(self):
+        for path, tree in trees():
+            for node in ast.walk(tree):
+                if isinstance(node, ast.Compare):
+                    for sign, side in zip(node.ops, node.comparators):
+                        if isinstance(sign, (ast.Is, ast.IsNot)):
+                            self.assertIsInstance(side, ast.Constant, path.name)
+                            self.assertIn(repr(side.value), ("None", "True", "False"), path.name)
+
+    def test_sets_stand_only_in_sorted_len_and_comparisons(self):
+        for path, tree in trees():
+            inside = [
+                argument for node in ast.walk(tree) if isinstance(node, ast.Call) and isinstance(node.func, ast.Name)
+                and node.func.id in ("sorted", "len") for argument in node.args
+            ]
+            for node in ast.walk(tree):
+                called = isinstance(node, ast.Call) and isinstance(node.func, ast.Name) and node.func.id == "set"
+                if called or isinstance(node, (ast.Set, ast.SetComp)):
+                    self.assertIn(node, inside, path.name)
+
+    def test_errors_that_are_caught(self):
+        for path, tree in trees():
+            for node in ast.walk(tree):
+                if isinstance(node, ast.ExceptHandler):
+                    self.assertIn(node.type.id, {"BadText", "NoThing"}, path.name)
+                if isinstance(node, ast.Raise):
+                    self.assertIsInstance(node.exc, ast.Call, path.name)
+
     def test_values_and_statements(self):
-        barred = (ast.Div, ast.Global, ast.AsyncFunctionDef, ast.Await, ast.AnnAssign, ast.MatMult)
+        barred = (ast.Div, ast.Global, ast.AsyncFunctionDef, ast.Await, ast.AnnAssign, ast.MatMult, ast.GeneratorExp)
         for path, tree in trees():
             for node in ast.walk(tree):
                 self.assertNotIsInstance(node, barred, path.name)

@@ -2,15 +2,68 @@
 
 import unittest
 
-from knownends.errors import BadText, NoText, NoThing, NoTree
+from knownends.disks import Disk, kept, lines, noted, opened, rest, standing
+from knownends.errors import (
+    BadText, NoArea, NoCounts, NoItems, NoName, NoNumber, NoQuestion, NoRoom, NoSketch, NoText, NoThing, NoTree, NoTruth,
+)
+from knownends.foes import is_verdict, play
+from knownends.joins import is_join_truths, join, join_truths, joined, same
+from knownends.questions import (
+    end_truths, ends, is_end_truths, is_question, perhaps_above, perhaps_first, surely_above, surely_first, value,
+)
+from knownends.rooms import most_off, room_for, widest, worst
+from knownends.sketches import bare, fed, fed_many, is_sketch, poured, sketch_of
 from knownends.streams import are_counts, counts_of, is_name, is_tree
 from knownends.texts import check, packed, sealed, unpacked, unsealed
+from knownends.truths import is_paper, is_truth, paper
 from tests.helper import nested, odd_values
 
 # Each function of one argument, with the one error that it may raise.
 FUNCTIONS = [
     (is_name, None), (is_tree, None), (are_counts, None), (counts_of, NoTree),
     (packed, NoThing), (unpacked, BadText), (check, NoText), (sealed, NoThing), (unsealed, None),
+    (lines, NoText), (rest, NoText), (is_sketch, None), (bare, NoRoom), (is_question, None), (surely_first, NoSketch),
+    (perhaps_first, NoSketch),
+]
+
+SKETCH = (2, 6, 1, (("a", 2), ("b", 1)))
+TRUTH = (("a", 2), ("b", 2), ("c", 1), ("d", 1))
+TREE = (("stream", ("a", "b")),)
+UNLIKE = ("unlike",)
+
+
+def maker():
+    """A keeper that keeps nothing and tells no more than it must."""
+    box = []
+    return box.append, lambda: (), lambda name: (0, len(box))
+
+
+# Each function of more arguments: right ones, and for each of them the error for a wrong one, None if there is none.
+CALLS = [
+    (fed, (SKETCH, "a"), (NoSketch, NoName)),
+    (fed_many, (SKETCH, "a", 3), (NoSketch, NoName, NoNumber)),
+    (poured, (SKETCH, SKETCH), (NoSketch, NoSketch)),
+    (sketch_of, (2, TREE), (NoRoom, NoTree)),
+    (is_truth, (SKETCH, TRUTH), (NoSketch, None)),
+    (paper, (SKETCH, TRUTH), (NoSketch, NoTruth)),
+    (is_paper, (SKETCH, TRUTH, TREE), (NoSketch, NoTruth, None)),
+    (value, (TRUTH, UNLIKE), (NoCounts, NoQuestion)),
+    (ends, (SKETCH, UNLIKE), (NoSketch, NoQuestion)),
+    (end_truths, (SKETCH, UNLIKE), (NoSketch, NoQuestion)),
+    (is_end_truths, (SKETCH, UNLIKE, (TRUTH, TRUTH)), (NoSketch, NoQuestion, None)),
+    (surely_above, (SKETCH, 1), (NoSketch, NoNumber)),
+    (perhaps_above, (SKETCH, 1), (NoSketch, NoNumber)),
+    (joined, (TRUTH, TRUTH), (NoCounts, NoCounts)),
+    (join, (SKETCH, SKETCH), (NoSketch, NoSketch)),
+    (join_truths, (SKETCH, SKETCH), (NoSketch, NoSketch)),
+    (is_join_truths, (SKETCH, SKETCH, ((TRUTH, TRUTH), (TRUTH, TRUTH))), (NoSketch, NoSketch, None)),
+    (same, (SKETCH, SKETCH), (NoSketch, NoSketch)),
+    (most_off, (2, 7), (NoRoom, NoNumber)),
+    (room_for, (7, 2), (NoNumber, NoNumber)),
+    (worst, (2, 7), (NoRoom, NoNumber)),
+    (widest, (2, 7, ("count", "a")), (NoRoom, NoNumber, NoQuestion)),
+    (lambda *rest_of_it: play(maker, *rest_of_it), (2, 7), (NoRoom, NoNumber)),
+    (lambda *rest_of_it: is_verdict(maker, *rest_of_it), (2, 7, ("keeps", ("a",))), (NoRoom, NoNumber, None)),
 ]
 
 
@@ -24,6 +77,21 @@ def told_by(function, value, error):
         return type(raised), vars(raised)
 
 
+def is_right(value, error, first):
+    """Whether an odd value is a right one where this error is raised for a wrong one."""
+    if error is NoRoom:
+        return value == 1 and value is not True
+    if error is NoNumber:
+        return type(value) is int and value >= 0 and (first in (NoSketch,) or value <= 10 ** 12)
+    if error is NoName:
+        return value in ("a", "pour")
+    if error is NoTree:
+        return value == (("stream", ()),)
+    if error is NoCounts:
+        return value == () or value == (("a", 1),)
+    return error is None
+
+
 class TestRules(unittest.TestCase):
     def test_any_value_gets_an_answer_and_is_not_changed(self):
         for function, error in FUNCTIONS:
@@ -33,8 +101,57 @@ class TestRules(unittest.TestCase):
                 self.assertEqual(repr(value), before)
                 self.assertEqual(told_by(function, value, error), told)
 
+    def test_each_argument_has_its_error(self):
+        for function, right, errors in CALLS:
+            function(*right)
+            for at, error in enumerate(errors):
+                for value in odd_values():
+                    arguments = right[:at] + (value,) + right[at + 1:]
+                    before = repr(value)
+                    if error is None:
+                        self.assertIs(function(*arguments), False)
+                    elif not is_right(value, error, errors[0]):
+                        self.assertRaises(error, function, *arguments)
+                    self.assertEqual(repr(value), before)
+
+    def test_the_first_wrong_argument_is_told(self):
+        for function, right, errors in CALLS:
+            for value in (None, True, [], -1, Disk(), nested(30, dict), "~" * 20000):
+                for at, error in enumerate(errors):
+                    arguments = right[:at] + (value,) * (len(right) - at)
+                    if error is not None:
+                        self.assertRaises(error, function, *arguments)
+
+    def test_equal_calls_give_equal_results(self):
+        for function, right, _ in CALLS:
+            self.assertEqual(function(*right), function(*right))
+
+    def test_disks_take_any_value(self):
+        for value in odd_values():
+            disk = Disk()
+            opened(disk)
+            before = disk.area(0)
+            number = value == 0 and value is not False
+            if not number and not (value == 1 and value is not True):
+                for call in (disk.area, disk.clear, lambda k: disk.append(k, "", None), lambda k: disk.shorten(k, 0)):
+                    self.assertRaises(NoArea, call, value)
+            if not number and not (type(value) is int and 0 <= value <= len(before)):
+                self.assertRaises(NoNumber, disk.shorten, 0, value)
+            if value is not None and not (type(value) is int and value >= 0):
+                self.assertRaises(NoNumber, disk.append, 0, "a", value)
+                self.assertRaises(NoNumber, noted, disk, "a", value)
+                self.assertRaises(NoNumber, kept, disk, (), value)
+            if not isinstance(value, str):
+                self.assertRaises(NoText, disk.append, 0, value, None)
+            if isinstance(value, (bool, list, dict, Disk, ValueError)):
+                self.assertRaises(NoItems, noted, disk, value, None)
+                self.assertRaises(NoItems, kept, disk, value, None)
+                self.assertRaises(NoItems, kept, disk, (value,), None)
+            self.assertEqual((disk.area(0), disk.area(1)), (before, ""))
+            self.assertEqual(standing(disk), 0)
+
     def test_flags_are_flags(self):
-        for function in (is_name, is_tree, are_counts):
+        for function in (is_name, is_tree, are_counts, is_sketch, is_question):
             for value in odd_values():
                 self.assertIn(repr(function(value)), ("True", "False"))
 
