@@ -22,12 +22,17 @@ def is_stream(thing):
 
 def is_tree(thing):
     """Whether it is a tuple of steps that can be done and leave just one on the pile."""
+    return is_tree_of(thing, "stream", is_stream)
+
+
+def is_tree_of(thing, word, is_right):
+    """Whether it is a tree whose streams are put on the pile by this word, and are right ones."""
     if not isinstance(thing, tuple) or len(thing) > MOST_STEPS:
         return False
     many = 0
     height = 0
     for step in thing:
-        if _is_put(step):
+        if _is_put(step, word) and is_right(step[1]):
             height += 1
             many += len(step[1])
         elif _is_pour(step) and height >= 2:
@@ -37,9 +42,9 @@ def is_tree(thing):
     return height == 1 and many <= MOST_ITEMS
 
 
-def _is_put(step):
-    """Whether a step puts a stream on the pile."""
-    return isinstance(step, tuple) and len(step) == 2 and step[0] == "stream" and is_stream(step[1])
+def _is_put(step, word):
+    """Whether a step puts something on the pile by this word."""
+    return isinstance(step, tuple) and len(step) == 2 and step[0] == word
 
 
 def _is_pour(step):

@@ -5,16 +5,16 @@ class Tally:
     """A sketch that changes; sketch() tells it as a tuple."""
 
     def __init__(self, sketch):
-        self.room, self.many, self.off, kept = sketch
+        self.room, self.seen, self.off, kept = sketch
         self.counts = dict(kept)
 
     def sketch(self):
         """The sketch as it is now."""
-        return (self.room, self.many, self.off, tuple(sorted(self.counts.items())))
+        return (self.room, self.seen, self.off, tuple(sorted(self.counts.items())))
 
     def feed(self, name, times):
         """So many items of one name."""
-        self.many += times
+        self.seen += times
         if name not in self.counts and len(self.counts) == self.room:
             amount = min(times, min(self.counts.values()))
             self._take(amount)
@@ -26,7 +26,7 @@ class Tally:
     def pour(self, sketch):
         """Pours another sketch of the same room in."""
         _, many, off, kept = sketch
-        self.many += many
+        self.seen += many
         self.off += off
         for name, count in kept:
             self.counts[name] = self.counts.get(name, 0) + count

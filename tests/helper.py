@@ -2,6 +2,7 @@
 
 from knownends import errors
 from knownends.disks import Disk
+from knownends.texts import check, sealed
 
 
 def nested(depth, kind):
@@ -25,3 +26,11 @@ def odd_values():
     values += [errors.NoTree(), errors.BadText(3), errors.TooMany([1]), (errors.BadSheet(None),), Disk(), (Disk(),)]
     values += [("count", ["a"]), (1, 0, 0, []), [1, 0, 0, ()], (1, 0, 0, (("a", 0),)), ("unlike", 1), (None,) * 4]
     return values
+
+
+def text_of(*entries):
+    """The lines of these entries, each with the check of all ahead."""
+    text = ""
+    for entry in entries:
+        text += sealed((check(text), entry)) + "\n"
+    return text

@@ -5,7 +5,7 @@ import unittest
 from knownends.disks import Disk, kept, lines, noted, opened, rest, standing
 from knownends.errors import NoArea, NoItems, NoNumber, NoStand, NoText, NoThing
 from knownends.texts import check, sealed, unsealed
-from tests.helper import nested, odd_values
+from tests.helper import nested, odd_values, text_of
 
 NO_AREAS = [True, False, 2, -1, None, "0", "", (), (0,), [], [0], [1], {}, {0: 1}, 10 ** 29, Disk()]
 NO_TEXTS = ["\t", "a\tb", "\r\n", "\x7f", "\x1f", "\xe9", "\x00", None, True, 0, (), ("a",), [], ["a"], {}, Disk()]
@@ -13,14 +13,6 @@ NO_NUMBERS = [-1, True, False, "1", (), (1,), [1], {}, -(10 ** 29), Disk()]
 NO_THINGS = [True, False, [], {}, "\n", "a\tb", 10 ** 30, -(10 ** 30), (True,), (1, []), ("\n",), Disk(), (Disk(),)]
 NO_THINGS += [nested(29, tuple), nested(30, tuple), (1, nested(28, tuple)), nested(3, list), nested(30, dict)]
 THINGS = [0, -7, 10 ** 30 - 1, None, "", "it's ~ #1", (), ("item", "whole"), ("a", (1, None)), nested(28, tuple)]
-
-
-def text_of(*entries):
-    """The lines of these entries, each with the check of all ahead."""
-    text = ""
-    for entry in entries:
-        text += sealed((check(text), entry)) + "\n"
-    return text
 
 
 def disk_of(one, other):

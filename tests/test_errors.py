@@ -48,6 +48,14 @@ class TestErrors(unittest.TestCase):
                 self.assertIs(getattr(error, field), value)
                 self.assertEqual([name for name in FIELDS.values() if hasattr(error, name)], [field])
 
+    def test_each_is_caught_as_what_it_is(self):
+        for word in [*PLAIN, *FIELDS]:
+            for kind in (getattr(errors, word), errors.KnownError, ValueError):
+                value = [{"a": [word]}]
+                with self.assertRaises(kind) as caught:
+                    raise getattr(errors, word)(*[value] * (word in FIELDS))
+                self.assertEqual(vars(caught.exception), {FIELDS[word]: [{"a": [word]}]} if word in FIELDS else {})
+
     def test_a_field_takes_just_one_argument(self):
         for word in FIELDS:
             with self.assertRaises(TypeError):

@@ -7,7 +7,7 @@ import unittest
 
 FOLDER = pathlib.Path(__file__).resolve().parent.parent / "knownends"
 
-# What the interface lists, as far as it is written: each function with its arguments.
+# What the interface lists: each function with its arguments.
 INTERFACE = {
     "streams": {"is_name": ["thing"], "is_tree": ["thing"], "are_counts": ["thing"], "counts_of": ["tree"]},
     "texts": {
@@ -40,6 +40,18 @@ INTERFACE = {
         "widest": ["room", "many", "question"],
     },
     "foes": {"play": ["maker", "room", "many"], "is_verdict": ["maker", "room", "many", "thing"]},
+    "spaces": {"is_space": ["thing"], "bare_space": ["room"], "fed_space": ["space", "name"], "from_space": ["space"]},
+    "rings": {"sum_ends": ["sketches", "name"]},
+    "ranks": {
+        "is_ranks": ["thing"], "bare_ranks": ["room"], "thinned": ["room", "many", "marks"],
+        "ranks_of": ["room", "numbers"], "poured_ranks": ["one", "other"], "ranks_tree": ["room", "tree"],
+        "ends_at": ["ranks", "place"], "openness": ["ranks"], "item_ends": ["ranks", "index"],
+        "rank_at": ["tree", "place"],
+    },
+    "turning": {"turned_tree": ["room", "tree", "place", "side"]},
+    "books": {"is_book": ["thing"], "joined_books": ["one", "other"], "whole": ["room", "book"]},
+    "sheets": {"question_text": ["question"], "read_question": ["text"], "run_sheet": ["text"]},
+    "days": {"day": ["net"], "relived": ["text"]},
 }
 
 # The classes of the interface: each method that is listed, with its arguments behind self.
@@ -48,6 +60,17 @@ CLASSES = {
         "Disk": {
             "__init__": [], "area": ["k"], "append": ["k", "text", "most"], "clear": ["k"], "shorten": ["k", "many"],
             "copy": [], "__eq__": ["other"],
+        },
+    },
+    "rings": {
+        "Ring": {
+            "__init__": ["room", "size", "blocks"], "feed": ["name"], "many": [], "last": ["j"], "now": [], "copy": [],
+        },
+    },
+    "net": {
+        "Net": {
+            "__init__": ["room", "sources", "collectors"], "event": ["event"], "bag": [], "events": [], "beginning": [],
+            "source": ["s"], "book": ["c"], "names_of": ["s"], "up": [], "copy": [], "gather": ["most"],
         },
     },
 }
@@ -91,7 +114,6 @@ class TestInterface(unittest.TestCase):
             for name, arguments in functions.items():
                 with self.subTest(name):
                     self.assertEqual([argument.arg for argument in defined[name].args], arguments)
-
 
     def test_each_method_stands_in_its_class_with_its_arguments(self):
         for module, classes in CLASSES.items():
@@ -213,9 +235,21 @@ class TestForm(unittest.TestCase):
         for path, tree in trees():
             for node in ast.walk(tree):
                 if isinstance(node, ast.ExceptHandler):
-                    self.assertIn(node.type.id, {"BadText", "NoThing"}, path.name)
+                    for kind in node.type.elts if isinstance(node.type, ast.Tuple) else [node.type]:
+                        self.assertIn(kind.id, {"BadText", "NoThing", "NoEvent", "NoRoom", "NoNumber"}, path.name)
                 if isinstance(node, ast.Raise):
                     self.assertIsInstance(node.exc, ast.Call, path.name)
+
+    def test_no_attribute_has_the_name_of_a_method(self):
+        methods, attributes = set(), set()
+        for _, tree in trees():
+            for node in ast.walk(tree):
+                if isinstance(node, ast.ClassDef):
+                    methods |= {part.name for part in node.body if isinstance(part, ast.FunctionDef)}
+                if isinstance(node, ast.Attribute) and isinstance(node.ctx, ast.Store):
+                    attributes.add(node.attr)
+        self.assertEqual(methods & attributes, set())
+        self.assertEqual(attributes & METHODS, set())
 
     def test_values_and_statements(self):
         barred = (ast.Div, ast.Global, ast.AsyncFunctionDef, ast.Await, ast.AnnAssign, ast.MatMult, ast.GeneratorExp)

@@ -2,34 +2,53 @@
 
 import unittest
 
+from knownends.books import is_book, joined_books, whole
+from knownends.days import relived
 from knownends.disks import Disk, kept, lines, noted, opened, rest, standing
 from knownends.errors import (
-    BadText, NoArea, NoCounts, NoItems, NoName, NoNumber, NoQuestion, NoRoom, NoSketch, NoText, NoThing, NoTree, NoTruth,
+    BadSheet, BadText, NoArea, NoBook, NoCounts, NoDay, NoItems, NoMarks, NoName, NoNumber, NoNumbers, NoPlace,
+    NoQuestion,
+    NoRanks, NoRoom, NoSide, NoSketch, NoSketches, NoSpace, NoText, NoThing, NoTree, NoTruth,
 )
 from knownends.foes import is_verdict, play
 from knownends.joins import is_join_truths, join, join_truths, joined, same
+from knownends.net import Net
 from knownends.questions import (
     end_truths, ends, is_end_truths, is_question, perhaps_above, perhaps_first, surely_above, surely_first, value,
 )
+from knownends.ranks import (
+    bare_ranks, ends_at, is_ranks, item_ends, openness, poured_ranks, rank_at, ranks_of, ranks_tree, thinned,
+)
+from knownends.rings import Ring, sum_ends
 from knownends.rooms import most_off, room_for, widest, worst
+from knownends.sheets import question_text, read_question, run_sheet
 from knownends.sketches import bare, fed, fed_many, is_sketch, poured, sketch_of
+from knownends.spaces import bare_space, fed_space, from_space, is_space
 from knownends.streams import are_counts, counts_of, is_name, is_tree
 from knownends.texts import check, packed, sealed, unpacked, unsealed
 from knownends.truths import is_paper, is_truth, paper
+from knownends.turning import turned_tree
 from tests.helper import nested, odd_values
 
-# Each function of one argument, with the one error that it may raise.
+# Each function of one argument, with the error, or the errors, that it may raise.
 FUNCTIONS = [
     (is_name, None), (is_tree, None), (are_counts, None), (counts_of, NoTree),
     (packed, NoThing), (unpacked, BadText), (check, NoText), (sealed, NoThing), (unsealed, None),
     (lines, NoText), (rest, NoText), (is_sketch, None), (bare, NoRoom), (is_question, None), (surely_first, NoSketch),
-    (perhaps_first, NoSketch),
+    (perhaps_first, NoSketch), (is_space, None), (bare_space, NoRoom), (from_space, NoSpace), (is_ranks, None),
+    (bare_ranks, NoRoom), (openness, NoRanks), (is_book, None), (question_text, NoQuestion), (read_question, None),
+    (run_sheet, (NoText, BadSheet)), (relived, (NoText, NoDay)),
 ]
 
 SKETCH = (2, 6, 1, (("a", 2), ("b", 1)))
 TRUTH = (("a", 2), ("b", 2), ("c", 1), ("d", 1))
 TREE = (("stream", ("a", "b")),)
 UNLIKE = ("unlike",)
+SPACE = (2, 3, (("a", 2), ("b", 1)))
+RANKS = (2, 9, (((1, 2), 1, 3, 2, 5),))
+NUMBERS = (("numbers", ((1, 2), (3, 1))),)
+PLACE = ((1, 2), 1)
+BOOK = ((1, 6, SKETCH),)
 
 
 def maker():
@@ -64,6 +83,20 @@ CALLS = [
     (widest, (2, 7, ("count", "a")), (NoRoom, NoNumber, NoQuestion)),
     (lambda *rest_of_it: play(maker, *rest_of_it), (2, 7), (NoRoom, NoNumber)),
     (lambda *rest_of_it: is_verdict(maker, *rest_of_it), (2, 7, ("keeps", ("a",))), (NoRoom, NoNumber, None)),
+    (fed_space, (SPACE, "a"), (NoSpace, NoName)),
+    (sum_ends, ((SKETCH,), "a"), (NoSketches, NoName)),
+    (lambda *numbers: Ring(*numbers).now(), (2, 3, 4), (NoRoom, NoNumber, NoNumber)),
+    (thinned, (2, 9, RANKS[2]), (NoRoom, NoMarks, NoMarks)),
+    (ranks_of, (2, NUMBERS[0][1]), (NoRoom, NoNumbers)),
+    (poured_ranks, (RANKS, RANKS), (NoRanks, NoRanks)),
+    (ranks_tree, (2, NUMBERS), (NoRoom, NoTree)),
+    (ends_at, (RANKS, PLACE), (NoRanks, NoPlace)),
+    (item_ends, (RANKS, 0), (NoRanks, NoNumber)),
+    (rank_at, (NUMBERS, PLACE), (NoTree, NoPlace)),
+    (turned_tree, (2, NUMBERS, PLACE, 0), (NoRoom, NoTree, NoPlace, NoSide)),
+    (joined_books, (BOOK, BOOK), (NoBook, NoBook)),
+    (whole, (2, BOOK), (NoRoom, NoBook)),
+    (lambda *numbers: Net(*numbers).up(), (2, 3, 4), (NoRoom, NoNumber, NoNumber)),
 ]
 
 
@@ -89,6 +122,12 @@ def is_right(value, error, first):
         return value == (("stream", ()),)
     if error is NoCounts:
         return value == () or value == (("a", 1),)
+    if error is NoMarks:
+        return value == () or type(value) is int and value >= 5
+    if error is NoSide:
+        return type(value) is int and 0 <= value <= 1
+    if error in (NoSketches, NoNumbers, NoBook):
+        return value == ()
     return error is None
 
 
@@ -151,7 +190,7 @@ class TestRules(unittest.TestCase):
             self.assertEqual(standing(disk), 0)
 
     def test_flags_are_flags(self):
-        for function in (is_name, is_tree, are_counts, is_sketch, is_question):
+        for function in (is_name, is_tree, are_counts, is_sketch, is_question, is_space, is_ranks, is_book):
             for value in odd_values():
                 self.assertIn(repr(function(value)), ("True", "False"))
 
