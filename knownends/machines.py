@@ -25,7 +25,7 @@ class Source:
             if item[0] == "start":
                 self.tally = Tally(item[2])
             else:
-                self.tally.feed(item[1], 1)
+                self.tally.gain(item[1], 1)
 
     def told(self):
         """How many items it has noted, and their sketch."""
@@ -34,7 +34,7 @@ class Source:
     def note(self, name):
         """Notes an item."""
         noted(self.disk, ("item", name), None)
-        self.tally.feed(name, 1)
+        self.tally.gain(name, 1)
         self.names.append(name)
 
     def note_cut(self, name, most):

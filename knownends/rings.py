@@ -34,7 +34,7 @@ class Ring:
         """One item more."""
         if not is_name(name):
             raise NoName()
-        self.tally.feed(name, 1)
+        self.tally.gain(name, 1)
         self.total += 1
         if self.total % self.size == 0:
             self.sketches = (self.sketches + [self.tally.sketch()])[-self.blocks:]

@@ -68,7 +68,7 @@ def _feed(words, sketches, told):
         return False
     tally = Tally(sketches[words[0]])
     for name in words[1:]:
-        tally.feed(name, 1)
+        tally.gain(name, 1)
     sketches[words[0]] = tally.sketch()
     return True
 

@@ -44,7 +44,7 @@ def fed_many(sketch, name, times):
     if not is_number(times):
         raise NoNumber()
     tally = Tally(sketch)
-    tally.feed(name, times)
+    tally.gain(name, times)
     return tally.sketch()
 
 
@@ -75,7 +75,7 @@ def sketch_of(room, tree):
         if step[0] == "stream":
             tally = Tally(bare(room))
             for name in step[1]:
-                tally.feed(name, 1)
+                tally.gain(name, 1)
             pile.append(tally)
         else:
             above = pile.pop()

@@ -12,7 +12,7 @@ class Tally:
         """The sketch as it is now."""
         return (self.room, self.seen, self.off, tuple(sorted(self.counts.items())))
 
-    def feed(self, name, times):
+    def gain(self, name, times):
         """So many items of one name."""
         self.seen += times
         if name not in self.counts and len(self.counts) == self.room:

@@ -234,7 +234,8 @@ class TestThinned(unittest.TestCase):
             self.assertRaises(NoMarks, thinned, 2, many, RANKS[2])
         self.assertRaises(NoMarks, thinned, 2, True, ())
         wrong = [value for value in odd_values() if value != ()]
-        wrong += [[MARK], (MARK, MARK), RANKS[2][::-1], (((1, 2), 0, 0, 1, True),), (((2, 4), 0, 0, 1, 1),), (MARK[:4],)]
+        wrong += [[MARK], (MARK, MARK), RANKS[2][::-1], (((1, 2), 0, 0, 1, True),), (MARK[:4],)]
+        wrong += [(((2, 4), 0, 0, 1, 1),)]
         for marks in wrong:
             self.assertRaises(NoMarks, thinned, 2, 9, marks)
         for at in range(100):
@@ -418,7 +419,7 @@ class TestTrees(unittest.TestCase):
         put = ("numbers", ((1, 1),))
         wrong = [(), put, (POUR,), (put, put), (put, POUR), (put, put, POUR, POUR), [put], (list(put),)]
         wrong += [(("numbers",),), (("numbers", [(1, 1)]),), (("numbers", (), ()),), (("number", ()),)]
-        wrong += [(("stream", ()),), (("stream", ("a",)),), (put, put, ("pour", ())), (put, put, "pour")]
+        wrong += [(("stream", ()),), (("stream", ("a",)),), (put, put, ("pour", ())), (put, put, ("pours",))]
         wrong += [(("numbers", (fraction,)),) for fraction in NO_FRACTIONS] + odd_values()
         for tree in wrong:
             self.assertRaises(NoTree, ranks_tree, 2, tree)

@@ -43,6 +43,8 @@ NO_TREES = [
     (put("a"), put("b"), "pour"),
     (put("a"), put("b"), ("pour", ())),
     (put("a"), put("b"), ()),
+    (put("a"), put("b"), ("pours",)),
+    (put("a"), put("b"), (None,)),
     (put("a"), ("drop",)),
     (("stream",),),
     (("stream", ("a",), ("b",)),),
